@@ -1,0 +1,1 @@
+"""Wagebook: pay by hours and bands, dues, and corrections back in time."""
