@@ -17,6 +17,12 @@ ALLOWED_BUILTINS = set(
     " ZeroDivisionError ArithmeticError OverflowError RuntimeError NotImplementedError AttributeError"
     " StopIteration".split()
 )
+ALLOWED_METHODS = set(
+    "append clear copy count endswith extend find get index insert isalnum isalpha isdigit islower isspace"
+    " isupper items join keys ljust lower lstrip partition pop remove replace reverse rfind rjust rpartition"
+    " rsplit rstrip setdefault split splitlines startswith strip update upper values zfill bit_length".split()
+)
+PYTHONS_OWN = (str, int, list, dict, set, bytes, tuple)
 RULED_OUT_NODES = (
     ast.With, ast.Match, ast.Delete, ast.Global, ast.Nonlocal, ast.Assert, ast.Yield, ast.YieldFrom,
     ast.AsyncFunctionDef, ast.Await, ast.SetComp, ast.DictComp, ast.GeneratorExp, ast.NamedExpr,
@@ -39,7 +45,7 @@ class LanguageTest(unittest.TestCase):
 
     def test_the_modules_are_there_and_nothing_else_but_python(self):
         names = [path.name for path in sources()]
-        for name in ("__init__.py", "errors.py", "bands.py", "tables.py"):
+        for name in ("__init__.py", "errors.py", "bands.py", "tables.py", "person.py", "book.py", "day.py"):
             self.assertIn(name, names)
         for name in names:
             self.assertRegex(name, r"^[a-z0-9_]+\.py$")
@@ -78,6 +84,45 @@ class LanguageTest(unittest.TestCase):
                 if isinstance(node, ast.Name) and hasattr(builtins, node.id):
                     self.assertIn(node.id, ALLOWED_BUILTINS, path)
                     self.assertIsInstance(node.ctx, ast.Load, (path, node.id))
+
+    def test_parameters_and_attributes_have_plain_names(self):
+        for path, tree in self.trees():
+            for node in ast.walk(tree):
+                if isinstance(node, ast.arg):
+                    self.assertFalse(hasattr(builtins, node.arg) or node.arg.startswith("_"), (path, node.arg))
+                if isinstance(node, ast.Name):
+                    self.assertFalse(node.id.startswith("_"), (path, node.id))
+                if isinstance(node, ast.Attribute):
+                    self.assertFalse(node.attr.startswith("_"), (path, node.attr))
+
+    def test_methods_and_values_of_objects_are_apart(self):
+        methods = set()
+        values = set()
+        attributes = set()
+        for path, tree in self.trees():
+            for node in ast.walk(tree):
+                if isinstance(node, ast.ClassDef):
+                    methods.update(part.name for part in node.body if isinstance(part, ast.FunctionDef))
+                if isinstance(node, ast.Attribute):
+                    attributes.add(node.attr)
+                    if isinstance(node.ctx, ast.Store):
+                        values.add(node.attr)
+        self.assertEqual(methods & values, set())
+        self.assertEqual(attributes - methods - values - ALLOWED_METHODS, set())
+        for name in sorted((methods | values) - {"__init__"}):
+            self.assertFalse(any(hasattr(kind, name) for kind in PYTHONS_OWN), name)
+
+    def test_no_two_files_draw_from_one_another(self):
+        drawn = {}
+        for path, tree in self.trees():
+            drawn[path.stem] = [
+                node.module.split(".")[1] for node in ast.walk(tree) if isinstance(node, ast.ImportFrom)
+            ]
+        while drawn:
+            free = [name for name in drawn if not any(other in drawn for other in drawn[name])]
+            self.assertNotEqual(free, [], drawn)
+            for name in free:
+                del drawn[name]
 
 
 if __name__ == "__main__":
